@@ -1,0 +1,122 @@
+"""[1]: integers and tuples, the order of errors, and that calls change nothing."""
+
+import unittest
+
+from tests import model
+from viewstairs.errors import BadPaper, BadStair, OutOfPlace
+from viewstairs.rings import check_drift, drift, drift_paper, ring_stair, turns_within
+from viewstairs.stairs import Stair, climbs, first_unlike
+
+
+def answers(one, other):
+    """What all calls tell of two STAIRs."""
+    ring = (((3, 0, 0), "with"), ((5, 2, 1), "ahead"))
+    return [one.period, one.steps, one(7), one.last(7), one.again(9), one * other, one & other, one | other, one + 3,
+            3 + one, one - 3, -one, ~one, one <= other, one >= other, one < other, one > other, one == other,
+            7 in one, len(one), one[4], str(one), repr(one), list(climbs(one, 2, 5)), first_unlike(one, other),
+            drift(one), drift_paper(one), check_drift(one, drift_paper(one)), ring_stair(ring),
+            Stair.beat((5, 2, 1)), Stair.shift(4)]
+
+
+class Conventions(unittest.TestCase):
+
+    def test_equal_calls_return_equal_results(self):
+        tellings = model.chance_tellings(51, 30)
+        for one, other in zip(tellings, tellings[1:]):
+            first = answers(Stair(*one), Stair(*other))
+            stairs = Stair(*one), Stair(*other)
+            self.assertEqual(answers(*stairs), first)
+            self.assertEqual(answers(*stairs), first)
+
+    def test_no_argument_is_changed(self):
+        for one, other in zip(model.chance_tellings(52, 30), model.chance_tellings(53, 30)):
+            stairs = Stair(*one), Stair(*other)
+            before = repr(stairs)
+            answers(*stairs)
+            self.assertEqual(repr(stairs), before)
+
+    def test_in_place_signs_make_other_stairs(self):
+        stair = kept = Stair(5, ((3, 2),))
+        stair *= kept
+        stair += 3
+        stair -= 1
+        stair &= kept
+        stair |= kept
+        self.assertEqual(repr(kept), "Stair(5, ((3, 2),))")
+
+    def test_results_are_tuples(self):
+        stair = Stair(7, ((0, 1), (2, 2)))
+        for thing in (stair.steps, stair.steps[0], stair[3], drift(stair), drift_paper(stair),
+                      list(climbs(stair, 0, 1))[0]):
+            self.assertIs(type(thing), tuple)
+
+    def test_a_refused_call_changes_nothing(self):
+        stair, paper = Stair(5, ((3, 2),)), (2, 1, -5)
+        for deed in (lambda: stair(None), lambda: stair.last(True), lambda: stair.again(10 ** 18 + 1),
+                     lambda: stair["3"], lambda: stair & 3, lambda: first_unlike(stair, 3),
+                     lambda: turns_within(stair, 3, 4)):
+            with self.assertRaises(OutOfPlace):
+                deed()
+        with self.assertRaises(BadPaper):
+            check_drift(stair, (2, 1, 5))
+        with self.assertRaises(BadStair):
+            stair.__class__(5, None)
+        self.assertEqual((repr(stair), check_drift(stair, paper)), ("Stair(5, ((3, 2),))", (-5, 1)))
+
+    def test_true_and_false_are_no_integers(self):
+        stair = Stair.shift(-1)
+        for thing in (True, False):
+            for deed in (lambda: stair(thing), lambda: stair.last(thing), lambda: stair.again(thing),
+                         lambda: stair + thing, lambda: thing + stair, lambda: stair - thing, lambda: stair[thing],
+                         lambda: Stair.shift(thing), lambda: Stair.beat((thing, 0, 0)),
+                         lambda: Stair.beat((1, 0, thing)), lambda: turns_within(stair, thing, -5),
+                         lambda: turns_within(stair, 5, thing)):
+                with self.assertRaises(OutOfPlace):
+                    deed()
+            self.assertIs(thing in stair, False)
+            for period, steps, place in ((thing, ((0, 0),), ("period",)), (5, thing, ("steps",)),
+                                         (5, ((thing, 0),), ("step", 0)), (5, ((0, thing),), ("step", 0))):
+                with self.assertRaises(BadStair) as caught:
+                    Stair(period, steps)
+                self.assertEqual(caught.exception.place, place)
+
+    def test_several_wrong_arguments(self):
+        with self.assertRaises(BadStair) as caught:
+            Stair(None, None)
+        self.assertEqual(caught.exception.place, ("period",))
+        with self.assertRaises(OutOfPlace):
+            check_drift(None, None)
+        with self.assertRaises(OutOfPlace):
+            turns_within(None, None, None)
+        for paper, part in (((None, 0, 7), "form"), ((0, 0, 7), "turns"), ((0, 1, 7), "gain"), (None, "form")):
+            with self.assertRaises(BadPaper) as caught:
+                check_drift(Stair.shift(-1), paper)
+            self.assertEqual(caught.exception.part, part)
+
+    def test_by_position_and_by_names(self):
+        stair, paper = Stair(period=5, steps=((3, 2),)), (2, 1, -5)
+        self.assertEqual(stair(moment=9), stair(9))
+        self.assertEqual(stair.last(moment=9), stair.last(9))
+        self.assertEqual(stair.again(times=9), stair.again(9))
+        self.assertEqual(Stair.beat(beat=(5, 2, 1)), Stair.beat((5, 2, 1)))
+        self.assertEqual(Stair.shift(number=3), Stair.shift(3))
+        self.assertEqual(list(climbs(many=2, begin=3, stair=stair)), list(climbs(stair, 3, 2)))
+        self.assertEqual(first_unlike(other=stair, one=-stair), first_unlike(-stair, stair))
+        self.assertEqual(drift(stair=stair), drift(stair))
+        self.assertEqual(drift_paper(stair=stair), drift_paper(stair))
+        self.assertEqual(check_drift(paper=paper, stair=stair), check_drift(stair, paper))
+        self.assertEqual(turns_within(floor=-9, moment=9, stair=stair), turns_within(stair, 9, -9))
+        self.assertEqual(ring_stair(ring=(((5, 2, 1), "with"),)), stair)
+
+    def test_what_was_told_may_be_passed_on(self):
+        great = Stair.shift(10 ** 999).again(10 ** 18).again(10 ** 18)
+        told = great(0)
+        self.assertEqual(told, 10 ** 1035)
+        self.assertEqual(great(told), 2 * told)
+        self.assertEqual(Stair.shift(told), great)
+        self.assertEqual(great.last(told), 0)
+        self.assertEqual(check_drift(great, drift_paper(great)), (told, 1))
+
+
+if __name__ == "__main__":
+    unittest.main()

@@ -1,0 +1,1 @@
+"""Viewstairs: of which moments refreshed views are."""
