@@ -67,7 +67,8 @@ class Bounds(unittest.TestCase):
         told = Stair(2 * 4097, ((3, 2), (4, 2), (4100, 4099)))
         self.assertEqual(told.period, 4097)
         self.check_refused(lambda: told * shift)
-        self.assertEqual(Stair(4097 * 2, ((0, 0), (1, 0), (4097, 4097))) * Stair(4097, ((0, 0),)), Stair(4097, ((0, 0),)))
+        twice = Stair(4097 * 2, ((0, 0), (1, 0), (4097, 4097)))
+        self.assertEqual(twice * Stair(4097, ((0, 0),)), Stair(4097, ((0, 0),)))
         half = Stair(8192, ((0, 0), (4096, 4096)))
         self.assertEqual(half * shift, Stair(4096, ((2, 0),)))
 

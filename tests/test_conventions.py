@@ -1,11 +1,17 @@
 """[1]: integers and tuples, the order of errors, and that calls change nothing."""
 
+import ast
+import random
 import unittest
 
-from tests import model
-from viewstairs.errors import BadPaper, BadStair, OutOfPlace
+from tests import model, model_webs
+from viewstairs.ages import greatest_age, greatest_wait, least_age, least_wait, report, share_beyond
+from viewstairs.errors import BadPaper, BadReads, BadStair, BadWeb, Missing, OutOfPlace
+from viewstairs.moments import check_whole, longest_torn, next_torn, torn_at, torn_share, whole_paper
+from viewstairs.paths import leaves, lower_stair, need_reads, path_stair, span
 from viewstairs.rings import check_drift, drift, drift_paper, ring_stair, turns_within
 from viewstairs.stairs import Stair, climbs, first_unlike
+from viewstairs.webs import is_web, live_web, names_of, need_web, paths
 
 
 def answers(one, other):
@@ -16,6 +22,73 @@ def answers(one, other):
             7 in one, len(one), one[4], str(one), repr(one), list(climbs(one, 2, 5)), first_unlike(one, other),
             drift(one), drift_paper(one), check_drift(one, drift_paper(one)), ring_stair(ring),
             Stair.beat((5, 2, 1)), Stair.shift(4)]
+
+
+def answers_of_web(web, reads):
+    """What all calls tell of a WEB and its READS."""
+    name, path = reads[0], leaves(web, reads)[-1]
+    papers = [whole_paper(web, reads), ("torn", next_torn(web, reads, 5) or 0, 0, 0)]
+    return [need_web(web), is_web(web), names_of(web), paths(web, name), live_web(web, names_of(web)[len(web[0]):]),
+            path_stair(web, path), lower_stair(web, path), span(web, path, 7), need_reads(web, reads),
+            leaves(web, reads), greatest_age(path_stair(web, path)), least_age(path_stair(web, path)),
+            greatest_wait(path_stair(web, path)), least_wait(path_stair(web, path)),
+            share_beyond(path_stair(web, path), 3), report(web, reads), papers, check_whole(web, reads, papers[0]),
+            torn_at(web, reads, 3), torn_share(web, reads), longest_torn(web, reads), next_torn(web, reads, 3)]
+
+
+def kinds(thing):
+    """The kinds of all parts of a thing, tuples and what they are made of."""
+    if type(thing) is tuple:
+        return {tuple}.union(*map(kinds, thing))
+    return {type(thing)}
+
+
+class Webs(unittest.TestCase):
+
+    def cases(self):
+        chance = random.Random(54)
+        for web in model_webs.chance_webs(54, 60):
+            yield web, model_webs.chance_reads(chance, web)
+
+    def test_equal_calls_return_equal_results(self):
+        for web, reads in self.cases():
+            again = ast.literal_eval(repr(web)), ast.literal_eval(repr(reads))
+            first = answers_of_web(web, reads)
+            self.assertEqual(answers_of_web(*again), first)
+            self.assertEqual(answers_of_web(web, reads), first)
+
+    def test_no_argument_is_changed(self):
+        for web, reads in self.cases():
+            before = repr((web, reads))
+            stair = path_stair(web, leaves(web, reads)[0])
+            told = repr(stair)
+            answers_of_web(web, reads)
+            greatest_age(stair), least_wait(stair), share_beyond(stair, 2)
+            self.assertEqual((repr((web, reads)), repr(stair)), (before, told))
+
+    def test_results_are_of_the_told_kinds(self):
+        for web, reads in self.cases():
+            for answer in answers_of_web(web, reads):
+                if isinstance(answer, list):
+                    answer = answer[0]
+                self.assertLessEqual(kinds(answer), {tuple, int, str, bool, type(None), Stair})
+
+    def test_true_and_false_are_no_integers(self):
+        web = ((("a", (True, False)),), ())
+        self.assertIs(is_web(web), False)
+        for thing in (True, False):
+            for wrong in (((("a", (5, thing)),), ()), ((("a", None),), (("v", (1, 0, thing), (("a", "with"),)),))):
+                with self.assertRaises(BadWeb):
+                    need_web(wrong)
+
+    def test_a_refused_call_changes_nothing(self):
+        web, reads = next(self.cases())
+        before = answers_of_web(web, reads)
+        for deed in (lambda: next_torn(web, reads, None), lambda: path_stair(web, None), lambda: live_web(web, 3),
+                     lambda: check_whole(web, reads, None), lambda: leaves(web, None), lambda: paths(web, None)):
+            with self.assertRaises((OutOfPlace, BadPaper, BadReads, Missing)):
+                deed()
+        self.assertEqual(answers_of_web(web, reads), before)
 
 
 class Conventions(unittest.TestCase):

@@ -1,15 +1,29 @@
-"""The interface of viewstairs.stairs and viewstairs.rings: names, kinds, and what is said of them there."""
+"""The interface: names and arguments, and what it says of viewstairs.stairs."""
 
 import inspect
 import unittest
 
 from tests import model
-from viewstairs import rings, stairs
+from viewstairs import ages, moments, paths, rings, stairs, webs
 from viewstairs.errors import OutOfPlace, TooGreat
 from viewstairs.stairs import Stair, climbs, first_unlike
 
 SOME = [Stair(*telling) for telling in model.tellings(3, -2, 2)]
 SOME += [Stair(*telling) for telling in model.chance_tellings(41, 100)]
+
+# Each function and class of a file, with its arguments.
+FUNCTIONS = (
+    (stairs, ("Stair period steps", "climbs stair begin many", "first_unlike one other")),
+    (rings, ("drift stair", "drift_paper stair", "check_drift stair paper", "turns_within stair moment floor",
+             "ring_stair ring")),
+    (webs, ("need_web thing", "is_web thing", "names_of web", "paths web name", "live_web web names")),
+    (paths, ("path_stair web path", "lower_stair web path", "span web path moment", "need_reads web thing",
+             "leaves web reads")),
+    (ages, ("greatest_age stair", "least_age stair", "greatest_wait stair", "least_wait stair",
+            "share_beyond stair number", "report web reads")),
+    (moments, ("whole_paper web reads", "check_whole web reads paper", "torn_at web reads moment",
+               "torn_share web reads", "longest_torn web reads", "next_torn web reads moment")),
+)
 
 
 class Names(unittest.TestCase):
@@ -17,20 +31,19 @@ class Names(unittest.TestCase):
     def test_constants(self):
         self.assertEqual((stairs.MOST_STEPS, stairs.MOST_TURNS, stairs.MOST_BEAT), (4096, 10 ** 18, 1000000))
 
-    def test_functions_stand_in_their_files(self):
-        for module, names in ((stairs, ("Stair", "climbs", "first_unlike")),
-                              (rings, ("drift", "drift_paper", "check_drift", "turns_within", "ring_stair"))):
-            for name in names:
-                self.assertEqual(getattr(module, name).__module__, module.__name__)
+    def test_functions(self):
+        for module, told in FUNCTIONS:
+            for line in told:
+                name, *arguments = line.split()
+                thing = getattr(module, name)
+                self.assertEqual(thing.__module__, module.__name__)
+                self.assertEqual(list(inspect.signature(thing).parameters), arguments)
 
-    def test_arguments(self):
-        for thing, names in ((Stair, ["period", "steps"]), (Stair.beat, ["beat"]), (Stair.shift, ["number"]),
-                             (Stair.__call__, ["self", "moment"]), (Stair.last, ["self", "moment"]),
-                             (Stair.again, ["self", "times"]), (climbs, ["stair", "begin", "many"]),
-                             (first_unlike, ["one", "other"]), (rings.drift, ["stair"]),
-                             (rings.drift_paper, ["stair"]), (rings.check_drift, ["stair", "paper"]),
-                             (rings.turns_within, ["stair", "moment", "floor"]), (rings.ring_stair, ["ring"])):
-            self.assertEqual(list(inspect.signature(thing).parameters), names)
+    def test_methods(self):
+        for thing, arguments in ((Stair.beat, ["beat"]), (Stair.shift, ["number"]),
+                                 (Stair.__call__, ["self", "moment"]), (Stair.last, ["self", "moment"]),
+                                 (Stair.again, ["self", "times"])):
+            self.assertEqual(list(inspect.signature(thing).parameters), arguments)
 
     def test_methods_stand_in_the_class(self):
         for name in ("__init__", "period", "steps", "__call__", "__mul__", "__and__", "__or__", "__add__", "__radd__",

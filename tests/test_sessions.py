@@ -18,10 +18,37 @@ RINGS = """
 (Stair(15, ((0, -4), (3, 1), (9, 6))), (-15, 3))
 """
 
+PATHS = """
+>>> from viewstairs.paths import path_stair, span
+>>> from viewstairs.webs import paths
+>>> web = ((("a", None), ("b", (7, 1))), (("v", (5, 2, 1), (("a", "ahead"), ("b", "with"))),))
+>>> paths(web, "v"), path_stair(web, ("v", "a")), span(web, ("v", "b"), 9)
+((('v', 'a'), ('v', 'b')), Stair(5, ((3, 1),)), (1, 7))
+"""
+
+AGES = """
+>>> from viewstairs.ages import greatest_age, greatest_wait, report, share_beyond
+>>> from viewstairs.stairs import Stair
+>>> f = Stair.beat((5, 2, 1))
+>>> web = ((("a", None), ("b", (7, 1))), (("v", (5, 2, 1), (("a", "ahead"), ("b", "with"))),))
+>>> greatest_age(f), greatest_wait(f), share_beyond(f, 3), report(web, ("v",))
+((5, 2), (5, 3), (2, 5), '       6       2 v < a\\n       5       1 v < b')
+"""
+
+# The session of viewstairs.lives, without what is asked of that file.
+MOMENTS = """
+>>> from viewstairs.moments import longest_torn, torn_share, whole_paper
+>>> v, w = ("v", (3, 0, 0), (("a", "with"),)), ("w", (2, 0, 0), (("v", "with"), ("b", "with")))
+>>> web = ((("a", None), ("b", None)), (v, w))
+>>> whole_paper(web, ("w",)), torn_share(web, ("w",)), longest_torn(web, ("w",))
+(('torn', 2, 1, 0), (2, 3), 4)
+"""
+
 
 class Sessions(unittest.TestCase):
 
-    def check_session(self, name, text, many=3):
+    def check_session(self, name, text):
+        many = text.count(">>> ")
         session = doctest.DocTestParser().get_doctest(text, {}, name, None, 0)
         report = []
         failed, tried = doctest.DocTestRunner(verbose=False).run(session, out=report.append)
@@ -34,9 +61,18 @@ class Sessions(unittest.TestCase):
     def test_rings(self):
         self.check_session("rings", RINGS)
 
+    def test_paths(self):
+        self.check_session("paths", PATHS)
+
+    def test_ages(self):
+        self.check_session("ages", AGES)
+
+    def test_moments(self):
+        self.check_session("moments", MOMENTS)
+
     def test_readme(self):
         text = (pathlib.Path(__file__).resolve().parent.parent / "README.md").read_text("utf-8")
-        self.check_session("README.md", text.replace("```", ""), text.count(">>> "))
+        self.check_session("README.md", text.replace("```", ""))
 
 
 if __name__ == "__main__":

@@ -1,6 +1,9 @@
-"""Integers: which things are some, and how they are written."""
+"""Integers: which things are some, how they are written, and fractions of them."""
+
+from math import gcd
 
 from viewstairs.errors import OutOfPlace
+from viewstairs.tuples import is_tuple
 
 _GROUP_DIGITS = 60
 _GROUP = 10 ** 60
@@ -18,7 +21,7 @@ def is_within(thing, least, most):
 
 def are_integers(thing, many):
     """Whether a thing is a tuple of so many integers."""
-    return isinstance(thing, tuple) and len(thing) == many and all([is_integer(part) for part in thing])
+    return is_tuple(thing, many, many) and all([is_integer(part) for part in thing])
 
 
 def need_integer(thing):
@@ -47,3 +50,9 @@ def decimal(number):
     if number < 0:
         groups.append("-")
     return "".join(groups[::-1])
+
+
+def fraction(part, whole):
+    """How much of a whole a part is, as a pair of integers without a common divisor."""
+    divisor = gcd(part, whole)
+    return part // divisor, whole // divisor

@@ -2,7 +2,9 @@
 
 from viewstairs.errors import BadPaper, OutOfPlace
 from viewstairs.integers import are_integers, need_within
+from viewstairs.modes import as_read, is_mode
 from viewstairs.stairs import MOST_TURNS, Stair, is_beat, need_stair
+from viewstairs.tuples import is_tuple
 
 _MOST_CARRIERS = 8
 _MOST_MOMENT = 10 ** 30
@@ -61,9 +63,9 @@ def ring_stair(ring):
     if not _is_ring(ring):
         raise OutOfPlace("a RING is asked for")
     beat, mode = ring[0]
-    told = _as_read(Stair.beat(beat), mode)
+    told = as_read(Stair.beat(beat), mode)
     for beat, mode in ring[1:]:
-        told = _as_read(Stair.beat(beat) * told, mode)
+        told = as_read(Stair.beat(beat) * told, mode)
     return told
 
 
@@ -90,21 +92,9 @@ def _turns_until(stair, moment, floor, most):
 
 def _is_carrier(thing):
     """Whether a thing is a pair of a BEAT and a MODE."""
-    if not isinstance(thing, tuple) or len(thing) != 2:
-        return False
-    beat, mode = thing
-    return is_beat(beat) and isinstance(mode, str) and mode in ("with", "ahead")
+    return is_tuple(thing, 2, 2) and is_beat(thing[0]) and is_mode(thing[1])
 
 
 def _is_ring(thing):
     """Whether a thing is a RING."""
-    if not isinstance(thing, tuple) or not 1 <= len(thing) <= _MOST_CARRIERS:
-        return False
-    return all([_is_carrier(part) for part in thing])
-
-
-def _as_read(stair, mode):
-    """What is read with the STAIR, or ahead of it."""
-    if mode == "ahead":
-        return stair - 1
-    return stair
+    return is_tuple(thing, 1, _MOST_CARRIERS) and all([_is_carrier(part) for part in thing])

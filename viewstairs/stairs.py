@@ -4,6 +4,7 @@ from math import lcm
 
 from viewstairs.errors import BadStair, OutOfPlace, TooGreat
 from viewstairs.integers import are_integers, decimal, is_integer, is_within, need_integer, need_within
+from viewstairs.tuples import is_tuple
 
 MOST_STEPS = 4096
 MOST_TURNS = 10 ** 18
@@ -16,7 +17,7 @@ _VALUE = 1
 
 def is_beat(thing):
     """Whether a thing is a BEAT."""
-    if not isinstance(thing, tuple) or len(thing) != 3:
+    if not is_tuple(thing, 3, 3):
         return False
     period, offset, takes = thing
     return is_within(period, 1, MOST_BEAT) and is_within(offset, 0, period - 1) and is_within(takes, 0, MOST_BEAT)
@@ -45,7 +46,7 @@ def _need_steps(period, steps):
     """Refuse what tells no STAIR."""
     if not is_integer(period) or period < 1:
         raise BadStair(("period",))
-    if not isinstance(steps, tuple) or not 1 <= len(steps) <= MOST_STEPS:
+    if not is_tuple(steps, 1, MOST_STEPS):
         raise BadStair(("steps",))
     index = _wrong_step(period, steps)
     if index is not None:
@@ -136,18 +137,18 @@ def _least_reaching(stair, value):
     return _step(stair, _index_reaching(stair, value))[_AT]
 
 
-def _many_within(stair, span):
+def many_within(stair, span):
     """The number of steps in a multiple of the PERIOD."""
     return len(stair.steps) * (span // stair.period)
 
 
-def _need_few(many):
+def need_few(many):
     """Refuse too many steps."""
     if many > MOST_STEPS:
         raise TooGreat(MOST_STEPS)
 
 
-def _unrolled(stair, span):
+def unrolled(stair, span):
     """The steps with an AT from 0 on and below the span, a multiple of the PERIOD."""
     period, steps = stair.period, stair.steps
     return [(at + turn * period, value + turn * period) for turn in range(span // period) for at, value in steps]
@@ -156,9 +157,9 @@ def _unrolled(stair, span):
 def _common_rows(one, other):
     """For each AT of either STAIR in their common PERIOD: the AT, and what both STAIRs have there."""
     span = lcm(one.period, other.period)
-    _need_few(_many_within(one, span) + _many_within(other, span))
+    need_few(many_within(one, span) + many_within(other, span))
     # A step at the end of each list keeps both of them readable until all steps are met.
-    first, second = [*_unrolled(one, span), (span, 0)], [*_unrolled(other, span), (span, 0)]
+    first, second = [*unrolled(one, span), (span, 0)], [*unrolled(other, span), (span, 0)]
     here, there = first[-2][_VALUE] - span, second[-2][_VALUE] - span
     left, right = 0, 0
     rows = []
@@ -265,8 +266,8 @@ class Stair:
     def __mul__(self, other):
         need_stair(other)
         span = lcm(self.period, other.period)
-        _need_few(_many_within(other, span))
-        return Stair(span, tuple([(at, _value_at(self, value)) for at, value in _unrolled(other, span)]))
+        need_few(many_within(other, span))
+        return Stair(span, tuple([(at, _value_at(self, value)) for at, value in unrolled(other, span)]))
 
     def __and__(self, other):
         need_stair(other)
