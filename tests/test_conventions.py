@@ -6,11 +6,15 @@ import unittest
 
 from tests import model, model_webs
 from viewstairs.ages import greatest_age, greatest_wait, least_age, least_wait, report, share_beyond
-from viewstairs.errors import BadPaper, BadReads, BadStair, BadWeb, Missing, OutOfPlace
+from viewstairs.alike import are_same, parting
+from viewstairs.errors import BadPaper, BadReads, BadStair, BadText, BadWeb, Missing, OutOfPlace
+from viewstairs.lives import check_live, live_paper, used_views
 from viewstairs.moments import check_whole, longest_torn, next_torn, torn_at, torn_share, whole_paper
 from viewstairs.paths import leaves, lower_stair, need_reads, path_stair, span
 from viewstairs.rings import check_drift, drift, drift_paper, ring_stair, turns_within
+from viewstairs.runs import Run, under
 from viewstairs.stairs import Stair, climbs, first_unlike
+from viewstairs.texts import read_stair, read_web, stair_text, web_text
 from viewstairs.webs import is_web, live_web, names_of, need_web, paths
 
 
@@ -21,19 +25,23 @@ def answers(one, other):
             3 + one, one - 3, -one, ~one, one <= other, one >= other, one < other, one > other, one == other,
             7 in one, len(one), one[4], str(one), repr(one), list(climbs(one, 2, 5)), first_unlike(one, other),
             drift(one), drift_paper(one), check_drift(one, drift_paper(one)), ring_stair(ring),
-            Stair.beat((5, 2, 1)), Stair.shift(4)]
+            Stair.beat((5, 2, 1)), Stair.shift(4), stair_text(one), read_stair(stair_text(one))]
 
 
 def answers_of_web(web, reads):
     """What all calls tell of a WEB and its READS."""
     name, path = reads[0], leaves(web, reads)[-1]
     papers = [whole_paper(web, reads), ("torn", next_torn(web, reads, 5) or 0, 0, 0)]
+    live, other = live_paper(web, reads), live_web(web, used_views(web, reads))
     return [need_web(web), is_web(web), names_of(web), paths(web, name), live_web(web, names_of(web)[len(web[0]):]),
             path_stair(web, path), lower_stair(web, path), span(web, path, 7), need_reads(web, reads),
             leaves(web, reads), greatest_age(path_stair(web, path)), least_age(path_stair(web, path)),
             greatest_wait(path_stair(web, path)), least_wait(path_stair(web, path)),
             share_beyond(path_stair(web, path), 3), report(web, reads), papers, check_whole(web, reads, papers[0]),
-            torn_at(web, reads, 3), torn_share(web, reads), longest_torn(web, reads), next_torn(web, reads, 3)]
+            torn_at(web, reads, 3), torn_share(web, reads), longest_torn(web, reads), next_torn(web, reads, 3),
+            parting(web, other, reads), are_same(web, other, reads), used_views(web, reads), live,
+            check_live(web, reads, live), web_text(web), read_web(web_text(web)), Run(web).read(reads),
+            Run(web).is_whole(reads), under(Run(web).trial(), lambda run: run.web)]
 
 
 def kinds(thing):
@@ -85,10 +93,46 @@ class Webs(unittest.TestCase):
         web, reads = next(self.cases())
         before = answers_of_web(web, reads)
         for deed in (lambda: next_torn(web, reads, None), lambda: path_stair(web, None), lambda: live_web(web, 3),
-                     lambda: check_whole(web, reads, None), lambda: leaves(web, None), lambda: paths(web, None)):
-            with self.assertRaises((OutOfPlace, BadPaper, BadReads, Missing)):
+                     lambda: check_whole(web, reads, None), lambda: leaves(web, None), lambda: paths(web, None),
+                     lambda: parting(web, web, None), lambda: check_live(web, reads, None), lambda: read_web("table"),
+                     lambda: live_paper(web, None)):
+            with self.assertRaises((OutOfPlace, BadPaper, BadReads, Missing, BadText)):
                 deed()
         self.assertEqual(answers_of_web(web, reads), before)
+
+    def test_by_names_in_any_order(self):
+        for web, reads in list(self.cases())[::10]:
+            path, paper, live = leaves(web, reads)[-1], whole_paper(web, reads), live_paper(web, reads)
+            stair, beat = path_stair(path=path, web=web), (4, 1, 2)
+            self.assertEqual(paths(name=reads[0], web=web), paths(web, reads[0]))
+            self.assertEqual(live_web(names=(), web=web), web)
+            self.assertEqual(stair, path_stair(web, path))
+            self.assertEqual(lower_stair(path=path, web=web), lower_stair(web, path))
+            self.assertEqual(span(moment=7, path=path, web=web), span(web, path, 7))
+            self.assertEqual(need_reads(thing=reads, web=web), reads)
+            self.assertEqual(leaves(reads=reads, web=web), leaves(web, reads))
+            self.assertEqual(share_beyond(number=2, stair=stair), share_beyond(stair, 2))
+            self.assertEqual(report(reads=reads, web=web), report(web, reads))
+            self.assertEqual(whole_paper(reads=reads, web=web), paper)
+            self.assertEqual(check_whole(paper=paper, reads=reads, web=web), paper[0])
+            self.assertEqual(torn_at(moment=7, reads=reads, web=web), torn_at(web, reads, 7))
+            self.assertEqual(torn_share(reads=reads, web=web), torn_share(web, reads))
+            self.assertEqual(longest_torn(reads=reads, web=web), longest_torn(web, reads))
+            self.assertEqual(next_torn(moment=7, reads=reads, web=web), next_torn(web, reads, 7))
+            self.assertIsNone(parting(reads=reads, other=web, web=web))
+            self.assertIs(are_same(reads=reads, web=web, other=web), True)
+            self.assertEqual(used_views(reads=reads, web=web), used_views(web, reads))
+            self.assertEqual(live_paper(reads=reads, web=web), live)
+            self.assertIs(check_live(paper=live, reads=reads, web=web), live[0] == "live")
+            self.assertEqual(read_web(text=web_text(web=web)), web)
+            self.assertEqual(read_stair(text=stair_text(stair=stair)), stair)
+            run, like = Run(web=web), Run(web)
+            run.retime(beat=beat, name=web[1][0][0])
+            like.retime(web[1][0][0], beat)
+            self.assertEqual(run, like)
+            self.assertEqual(run.read(reads=reads), like.read(reads))
+            self.assertIs(run.is_whole(reads=reads), like.is_whole(reads))
+            self.assertIs(under(deed=lambda one: one, manager=run.trial()), run)
 
 
 class Conventions(unittest.TestCase):

@@ -4,8 +4,9 @@ import inspect
 import unittest
 
 from tests import model
-from viewstairs import ages, moments, paths, rings, stairs, webs
+from viewstairs import ages, alike, lives, moments, paths, rings, runs, stairs, texts, webs
 from viewstairs.errors import OutOfPlace, TooGreat
+from viewstairs.runs import Run
 from viewstairs.stairs import Stair, climbs, first_unlike
 
 SOME = [Stair(*telling) for telling in model.tellings(3, -2, 2)]
@@ -23,6 +24,10 @@ FUNCTIONS = (
             "share_beyond stair number", "report web reads")),
     (moments, ("whole_paper web reads", "check_whole web reads paper", "torn_at web reads moment",
                "torn_share web reads", "longest_torn web reads", "next_torn web reads moment")),
+    (alike, ("parting web other reads", "are_same web other reads")),
+    (lives, ("used_views web reads", "live_paper web reads", "check_live web reads paper")),
+    (runs, ("Run web", "under manager deed")),
+    (texts, ("stair_text stair", "web_text web", "read_stair text", "read_web text")),
 )
 
 
@@ -42,7 +47,9 @@ class Names(unittest.TestCase):
     def test_methods(self):
         for thing, arguments in ((Stair.beat, ["beat"]), (Stair.shift, ["number"]),
                                  (Stair.__call__, ["self", "moment"]), (Stair.last, ["self", "moment"]),
-                                 (Stair.again, ["self", "times"])):
+                                 (Stair.again, ["self", "times"]), (Run.retime, ["self", "name", "beat"]),
+                                 (Run.read, ["self", "reads"]), (Run.is_whole, ["self", "reads"]),
+                                 (Run.copy, ["self"]), (Run.trial, ["self"])):
             self.assertEqual(list(inspect.signature(thing).parameters), arguments)
 
     def test_methods_stand_in_the_class(self):
@@ -50,6 +57,11 @@ class Names(unittest.TestCase):
                      "__sub__", "__neg__", "__invert__", "__le__", "__ge__", "__lt__", "__gt__", "__eq__", "last",
                      "again", "__contains__", "__len__", "__getitem__", "__str__", "__repr__", "beat", "shift"):
             self.assertIn(name, Stair.__dict__)
+        for name in ("__init__", "web", "moment", "__setitem__", "__iadd__", "__getitem__", "retime", "read",
+                     "is_whole", "__contains__", "__len__", "copy", "__eq__", "trial"):
+            self.assertIn(name, Run.__dict__)
+        for made, name in ((Stair, "period"), (Stair, "steps"), (Run, "web"), (Run, "moment")):
+            self.assertIsInstance(made.__dict__[name], property)
         self.assertIsInstance(Stair.__dict__["beat"], classmethod)
         self.assertIsInstance(Stair.__dict__["shift"], staticmethod)
 

@@ -35,13 +35,41 @@ AGES = """
 ((5, 2), (5, 3), (2, 5), '       6       2 v < a\\n       5       1 v < b')
 """
 
-# The session of viewstairs.lives, without what is asked of that file.
-MOMENTS = """
+LIVES = """
+>>> from viewstairs.lives import live_paper
 >>> from viewstairs.moments import longest_torn, torn_share, whole_paper
 >>> v, w = ("v", (3, 0, 0), (("a", "with"),)), ("w", (2, 0, 0), (("v", "with"), ("b", "with")))
 >>> web = ((("a", None), ("b", None)), (v, w))
->>> whole_paper(web, ("w",)), torn_share(web, ("w",)), longest_torn(web, ("w",))
-(('torn', 2, 1, 0), (2, 3), 4)
+>>> whole_paper(web, ("w",)), torn_share(web, ("w",)), longest_torn(web, ("w",)), live_paper(web, ("w",))
+(('torn', 2, 1, 0), (2, 3), 4, ('live', ('v',), ((2, 1, 0),)))
+"""
+
+RUNS = """
+>>> from viewstairs.runs import Run
+>>> v, w = ("v", (3, 0, 0), (("a", "with"),)), ("w", (2, 0, 0), (("v", "with"), ("b", "with")))
+>>> run = Run(((("a", None), ("b", None)), (v, w)))
+>>> run["a"] = 5
+>>> run += 1
+>>> run["a"] = 6
+>>> run["b"] = 7
+>>> run += 2
+>>> run["w"], run["a"], run.is_whole(("w",)), run.moment
+({('w', 'v', 'a'): (5,), ('w', 'b'): (7,)}, {('a',): (5, 6)}, False, 3)
+"""
+
+ALIKE = """
+>>> from viewstairs.alike import parting
+>>> one = ((("a", None),), (("v", (2, 0, 0), (("a", "with"),)),))
+>>> other = ((("a", None),), (("v", (3, 0, 0), (("a", "with"),)),))
+>>> parting(one, other, ("v",)), parting(one, other, ("a",))
+((2, 0), None)
+"""
+
+TEXTS = """
+>>> from viewstairs.texts import read_stair, web_text
+>>> web = ((("a", None), ("b", (7, 1))), (("v", (5, 2, 1), (("a", "ahead"), ("b", "with"))),))
+>>> web_text(web), read_stair("period 10\\n0 -3\\n3 2\\n8 7")
+('table a\\ntable b 7 1\\nview v 5 2 1 <a b', Stair(5, ((3, 2),)))
 """
 
 
@@ -67,8 +95,17 @@ class Sessions(unittest.TestCase):
     def test_ages(self):
         self.check_session("ages", AGES)
 
-    def test_moments(self):
-        self.check_session("moments", MOMENTS)
+    def test_lives(self):
+        self.check_session("lives", LIVES)
+
+    def test_runs(self):
+        self.check_session("runs", RUNS)
+
+    def test_alike(self):
+        self.check_session("alike", ALIKE)
+
+    def test_texts(self):
+        self.check_session("texts", TEXTS)
 
     def test_readme(self):
         text = (pathlib.Path(__file__).resolve().parent.parent / "README.md").read_text("utf-8")

@@ -43,6 +43,12 @@ class Source(unittest.TestCase):
             used = {node.id for node in ast.walk(tree) if isinstance(node, ast.Name)}
             self.assertEqual(used & BARRED, set(), name)
 
+    def test_no_signs_that_a_run_defines(self):
+        # Runs define "+=", so it is not taken for anything else in the package.
+        for name, tree in self.trees():
+            for node in ast.walk(tree):
+                self.assertNotIsInstance(node, ast.AugAssign, name)
+
     def test_sizes_and_characters(self):
         for file in self.files():
             text = file.read_text("utf-8")

@@ -6,7 +6,7 @@ from viewstairs.errors import BadPaper
 from viewstairs.integers import are_integers, fraction, need_integer
 from viewstairs.paths import leaf_spans, need_reads
 from viewstairs.stairs import Stair, many_within, need_few, unrolled
-from viewstairs.tuples import is_tuple
+from viewstairs.tuples import is_tagged
 
 
 def whole_paper(web, reads):
@@ -30,7 +30,8 @@ def check_whole(web, reads, paper):
         _need_within_all(spans, stair)
     elif _is_torn_form(paper):
         _, moment, first, second = paper
-        _need_torn(spans, moment, first, second)
+        if not is_torn_by(spans, moment, first, second):
+            raise BadPaper("torn")
     else:
         raise BadPaper("form")
     return paper[0]
@@ -72,6 +73,16 @@ def next_torn(web, reads, moment):
         if rest < end:
             return turns * multiple + (begin if begin > rest else rest)
     return (turns + 1) * multiple + stretches[0][0]
+
+
+def is_torn_by(spans, moment, first, second):
+    """Whether LOWER of the one leaf is greater than UPPER of the other one at a MOMENT; there may be no such leaves."""
+    many = len(spans)
+    if not 0 <= first < many or not 0 <= second < many:
+        return False
+    lower, _ = spans[first]
+    other, width = spans[second]
+    return lower(moment) > other(moment) + width
 
 
 def _all_torn(web, reads):
@@ -135,17 +146,12 @@ def _torn_pair(spans, moment):
 
 def _is_whole_form(thing):
     """Whether a thing is a pair of the word for WHOLE and a Stair."""
-    return is_tuple(thing, 2, 2) and _is_word(thing[0], "whole") and isinstance(thing[1], Stair)
+    return is_tagged(thing, "whole", 2) and isinstance(thing[1], Stair)
 
 
 def _is_torn_form(thing):
     """Whether a thing is the word for TORN and three integers."""
-    return is_tuple(thing, 4, 4) and _is_word(thing[0], "torn") and are_integers(thing[1:], 3)
-
-
-def _is_word(thing, word):
-    """Whether a thing of any kind is this word."""
-    return isinstance(thing, str) and thing == word
+    return is_tagged(thing, "torn", 4) and are_integers(thing[1:], 3)
 
 
 def _need_within_all(spans, stair):
@@ -153,14 +159,3 @@ def _need_within_all(spans, stair):
     for lower, width in spans:
         if not lower <= stair or not stair <= lower + width:
             raise BadPaper("stair")
-
-
-def _need_torn(spans, moment, first, second):
-    """Refuse a pair of leaves by which READS are not TORN at the MOMENT."""
-    many = len(spans)
-    if not 0 <= first < many or not 0 <= second < many:
-        raise BadPaper("torn")
-    lower, _ = spans[first]
-    other, width = spans[second]
-    if lower(moment) <= other(moment) + width:
-        raise BadPaper("torn")

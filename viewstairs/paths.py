@@ -25,13 +25,7 @@ def span(web, path, moment):
     """The SPAN of a PATH at a MOMENT, as a pair (LOWER, UPPER)."""
     _need_path(web, path)
     need_integer(moment)
-    seen = path_stair(web, path)(moment)
-    load = loads_of(web)[path[-1]]
-    if load is None:
-        return seen, seen
-    period, offset = load
-    lower = seen - (seen - offset) % period
-    return lower, lower + period - 1
+    return span_of(loads_of(web)[path[-1]], path_stair(web, path)(moment))
 
 
 def need_reads(web, thing):
@@ -66,6 +60,15 @@ def path_stairs(web, routes):
             elif part not in known:
                 known[part] = _led_on(beats, path[many - 1], as_read(known[path[:many - 1]], modes[part[-2:]]))
     return [known[path] for path in routes]
+
+
+def span_of(load, seen):
+    """The SPAN of what shows a table with this LOAD as it was at a MOMENT."""
+    if load is None:
+        return seen, seen
+    period, offset = load
+    lower = seen - (seen - offset) % period
+    return lower, lower + period - 1
 
 
 def leaf_spans(web, reads):

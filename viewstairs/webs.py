@@ -80,6 +80,11 @@ def need_few_paths(found):
         raise TooGreat(_MOST_PATHS)
 
 
+def is_name(thing):
+    """Whether a thing of any kind is a NAME."""
+    return isinstance(thing, str) and 1 <= len(thing) <= _MOST_LETTERS and all(["a" <= part <= "z" for part in thing])
+
+
 def is_name_in(thing, names):
     """Whether a thing of any kind is one of some NAMEs."""
     return isinstance(thing, str) and thing in names
@@ -122,9 +127,7 @@ def _is_view(thing, names):
 
 def _is_new_name(thing, names):
     """Whether a thing is a NAME, and none of these."""
-    if not isinstance(thing, str) or not 1 <= len(thing) <= _MOST_LETTERS:
-        return False
-    return all(["a" <= letter <= "z" for letter in thing]) and thing not in names
+    return is_name(thing) and thing not in names
 
 
 def _is_load(thing):
